@@ -1,0 +1,1 @@
+"""Pulledonce: streams that are asked, and one loop for them."""
