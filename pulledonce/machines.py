@@ -9,7 +9,8 @@ The event is the one that shows, place is the number of the node that waits for 
 reply (TAKER if none does), counts has an integer for each node and held a tuple of
 the things that the node holds. What an integer in counts means: of a source, the items
 so far; of a take, how many things it may still give; of a skip, how many are still to
-go; of an after, 1 behind the yes; of a lots or gather, 1 when the stage before has ended.
+go; of an after, 1 behind the yes; of a lots or gather, 1 when the stage before has ended;
+else 0.
 
 Between two events steps are carried out: (move, number, thing). The node with that
 number is asked ("ask"), or what it asked gives it a thing ("give") or ends ("end").
