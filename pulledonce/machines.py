@@ -1,23 +1,28 @@
-"""What the files of the package share: things, replies, and programs that run.
+"""What the files of the package share: events, replies, and programs that run.
 
-Things are texts. A program that runs is a list of nodes, which tells what asks what,
-and a state, a plain tuple that never changes and may be the key of a dict:
+A program that runs is a list of nodes, which tells what asks what, and a state, a plain
+tuple that never changes and may be the key of a dict:
 
     (event, place, counts, held)
 
-The event is the one that shows, place is the number of the node that waits for the
-reply (TAKER if none does), counts has an integer for each node and held a tuple of
-the things that the node holds. What an integer in counts means: of a source, the items
-so far; of a take, how many things it may still give; of a skip, how many are still to
-go; of an after, 1 behind the yes; of a lots or gather, 1 when the stage before has ended;
-else 0.
+The event is the one that shows, with a thing as its last entry instead of a text; place
+is the number of the node that waits for the reply (TAKER if none does), counts has an
+integer for each node and held a tuple of the things that the node holds. What an integer
+in counts means: of a take, how many things it may still give; of a skip, how many are
+still to go; of an after, 1 behind the yes; of a lots or gather, 1 when the stage before
+has ended; else 0.
 
 Between two events steps are carried out: (move, number, thing). The node with that
 number is asked ("ask"), or what it asked gives it a thing ("give") or ends ("end").
 """
 
+from pulledonce.things import item_thing, result_thing, row_thing, thing_text, things_in_row
+
 # The number of whoever takes the things of a program.
 TAKER = -1
+
+# The kinds of the events that end with a thing.
+WITH_THING = ("call", "test", "give")
 
 REPLIES = {
     "ask": ("item", "none"),
@@ -27,32 +32,11 @@ REPLIES = {
 }
 
 
-def item_text(source, number):
-    return f"{source}{number}"
-
-
-def result_text(name, thing):
-    return f"{name}({thing})"
-
-
-def row_text(things):
-    return "[" + ", ".join(things) + "]"
-
-
-def things_in_row(row):
-    """The list of the things in a row, those that row_text was made of."""
-    things = []
-    begin = 1
-    level = 0
-    for at, sign in enumerate(row):
-        if sign == "[":
-            level += 1
-        if level == 1 and sign in ",]":
-            things.append(row[begin:at])
-            begin = at + 2
-        if sign == "]":
-            level -= 1
-    return things
+def event_text(event):
+    """An event as a run shows it, with the text of its thing."""
+    if event[0] not in WITH_THING:
+        return event
+    return event[:-1] + (thing_text(event[-1]),)
 
 
 def replies_to(event, told):
@@ -121,13 +105,15 @@ def first_state(nodes):
     """The state of a program that has been asked for the first time."""
     counts = [node.detail if node.kind in ("take", "skip") else 0 for node in nodes]
     run = Run(nodes, counts, [()] * len(nodes))
-    return state_behind(run, ("ask", len(nodes) - 1, ""))
+    return state_behind(run, ("ask", len(nodes) - 1, ()))
 
 
-def next_state(nodes, state, word):
-    """The state behind a reply, which must be one that the event of the state has."""
+def next_state(nodes, state, word, item):
+    """The state behind a reply that the event of the state has; the item is what an "item" brings."""
     event, place, counts, held = state
     run = Run(nodes, counts, held)
+    if word == "item":
+        return state_behind(run, giving(nodes[place], item_thing(item)))
     return state_behind(run, step_behind_reply(run, event, place, word))
 
 
@@ -146,7 +132,7 @@ def showing(run, place, event):
 
 
 def asking(number):
-    return ("ask", number, "")
+    return ("ask", number, ())
 
 
 def giving(node, thing):
@@ -154,11 +140,11 @@ def giving(node, thing):
 
 
 def ending(node):
-    return ("end", node.asker, "")
+    return ("end", node.asker, ())
 
 
 def step_behind_reply(run, event, place, word):
-    """The step that a reply brings, or None if an event shows at once."""
+    """The step that another reply than "item" brings, or None if an event shows at once."""
     if word == "more":
         return asking(len(run.nodes) - 1)
     if word in ("close", "fails"):
@@ -166,11 +152,8 @@ def step_behind_reply(run, event, place, word):
     node = run.nodes[place]
     if word == "none":
         return ending(node)
-    if word == "item":
-        run.counts[place] += 1
-        return giving(node, item_text(node.detail, run.counts[place] - 1))
     if word == "done":
-        return giving(node, result_text(node.detail, event[-1]))
+        return giving(node, result_thing(node.detail, event[-1]))
     if word == "yes":
         return step_behind_yes(run, place, event[-1])
     return ending(node) if node.kind == "while" else asking(node.before)
@@ -233,7 +216,7 @@ def giving_first(run, number):
 def giving_row(run, number):
     held = run.held[number]
     run.held[number] = ()
-    return giving(run.nodes[number], row_text(held))
+    return giving(run.nodes[number], row_thing(held))
 
 
 def step_of_gather(run, number):

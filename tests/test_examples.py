@@ -2,12 +2,12 @@
 
 import unittest
 
-from pulledonce.errors import BadStage
+from pulledonce.errors import BadReplies, BadStage
+from pulledonce.programs import Program
 
 
 class StageOneTest(unittest.TestCase):
     def test_examples(self):
-        from pulledonce.programs import Program
         program = Program("a", [("keep", "p"), ("map", "f")])
         self.assertEqual(
             [program.source, program.sources, program.depth, program.then(("lots", 2)).depth,
@@ -20,6 +20,46 @@ class StageOneTest(unittest.TestCase):
         with self.assertRaises(BadStage) as seen:
             Program("a", [("zip", Program("b")), ("zip", Program("b"))])
         self.assertEqual(seen.exception.position, 1)
+
+
+class StageTwoTest(unittest.TestCase):
+    def test_examples(self):
+        from pulledonce.walks import Walk, run
+        program = Program("a", [("keep", "p"), ("map", "f")])
+        walk = Walk(program)
+        self.assertEqual(
+            [walk.event, walk.replies, walk.reply("item"), walk.event, walk.reply("yes"), walk.event],
+            [("ask", "a"), ["item", "none"], None, ("test", "p", "a0"), None, ("call", "f", "a0")],
+        )
+        self.assertEqual(
+            [walk.reply("done"), walk.event, walk.reply("more"), walk.event, walk.given],
+            [None, ("give", "f(a0)"), None, ("ask", "a"), ["f(a0)"]],
+        )
+        self.assertEqual([walk.fork().like(walk), walk.like(Walk(program))], [True, False])
+        self.assertEqual(run(Program("a", [("lots", 2)]), ["item", "none", "more"]),
+                         [("ask", "a"), ("ask", "a"), ("give", "[a0]"), ("end",)])
+        with self.assertRaises(BadReplies) as seen:
+            run(Program("a", [("keep", "p"), ("keep", "p")]), ["item", "yes", "no"])
+        self.assertEqual(seen.exception.position, 2)
+
+
+class StageThreeTest(unittest.TestCase):
+    def test_examples(self):
+        from pulledonce.ways import reaches, way_to
+        program = Program("a", [("keep", "p"), ("map", "f")])
+        self.assertEqual(
+            [way_to(program, ("give", "f(a1)")), reaches(program, ("test", "p", "a0")), way_to(program, ("give", "a0"))],
+            [["item", "no", "item", "yes", "done"], True, None],
+        )
+
+
+class StageFourTest(unittest.TestCase):
+    def test_examples(self):
+        from pulledonce.alike import alike, parting
+        self.assertIs(alike(Program("a", [("map", "f"), ("take", 1)]), Program("a", [("take", 1), ("map", "f")])), True)
+        self.assertEqual(parting(Program("a", [("lots", 2), ("flat",)]), Program("a", [("gather", 2)])),
+                         ["item", "item", "more"])
+        self.assertEqual(len(parting(Program("a", [("keep", "p"), ("keep", "p")]), Program("a", [("keep", "p")]))), 2)
 
 
 if __name__ == "__main__":
