@@ -165,6 +165,17 @@ class ByTheirMakingTest(PartingTest):
         self.assert_alike(Program("a", [("after", "p"), ("take", 1), ("keep", "p")]),
                           Program("a", [("after", "p"), ("take", 1), ("while", "p")]))
 
+    def test_tests_that_are_bound_far_behind(self):
+        kinds = ("keep", "while", "after")
+        for between in ([("gather", 2)], [("lots", 2), FLAT], [("lots", 2), ("gather", 2), FLAT]):
+            bound = [[("take", 1), KEEP] + between + [(kind, "p")] for kind in kinds]
+            for first in bound:
+                for second in bound:
+                    self.assert_alike(Program("a", first), Program("a", second))
+            free = [[("take", 3), AFTER] + between + [(kind, "p")] for kind in kinds]
+            for one, two in ((0, 1), (0, 2), (1, 2)):
+                self.assert_parted(Program("a", free[one]), Program("a", free[two]))
+
 
 class PlacesTest(PartingTest):
     def test_other_sources(self):

@@ -137,6 +137,14 @@ class NeverTest(WayTest):
         self.never([("while", "p"), ("lots", 1), ("flat",), ("skip", 1), ("after", "p"), ("lots", 2)], "give [a2]")
         self.way([("while", "p"), ("lots", 1), ("flat",), ("skip", 1), ("after", "q"), ("lots", 2)], "give [a2]", 9)
 
+    def test_replies_that_bind_far_behind(self):
+        for kind in ("keep", "while", "after"):
+            for between in ([("gather", 2)], [("lots", 2), ("flat",)], [("gather", 2), ("gather", 1)]):
+                both = [("while", "p"), ("take", 2)] + between
+                self.never(both + [(kind, "p"), ("lots", 2)], "give [a1]", "give []")
+                if kind != "while":
+                    self.way(both + [(kind, "q"), ("lots", 2)], "give [a1]", 6)
+
     def test_wrong_forms(self):
         self.never([("lots", 2), ("map", "f")], "give f([a0,a1])", "give f[a0, a1]", "give f([a0, a1]", "give  f([a0, a1])",
                    "give f([a0, a1]) ", "give f([a0, a1])\n", "give F([a0, a1])", "give f([a0, A1])", "give", "give ",
