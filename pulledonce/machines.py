@@ -16,6 +16,7 @@ Between two events steps are carried out: (move, number, thing). The node with t
 number is asked ("ask"), or what it asked gives it a thing ("give") or ends ("end").
 """
 
+from pulledonce.errors import BadReplies
 from pulledonce.things import item_thing, result_thing, row_thing, thing_text, things_in_row
 
 # The number of whoever takes the things of a program.
@@ -30,6 +31,9 @@ REPLIES = {
     "test": ("yes", "no", "fails"),
     "give": ("more", "close"),
 }
+
+# These end all runs alike.
+LAST_WORDS = ("close", "fails")
 
 
 def event_text(event):
@@ -52,6 +56,15 @@ def keep_reply(told, event, word):
         told[event] = word
 
 
+def events_of_run(walk, replies):
+    """The list of the events of a run that has shown its first one, when it has had each reply of a list."""
+    for position, word in enumerate(replies):
+        if word not in walk.replies:
+            raise BadReplies(position)
+        walk.reply(word)
+    return walk.events
+
+
 class Node:
     """A source ("from") or a stage, and the numbers of the nodes that it asks and of its asker.
 
@@ -68,14 +81,19 @@ class Node:
 
 def nodes_of(program):
     """The nodes of a program and of its zips' programs; the last one is asked by the taker."""
+    return nodes_of_stages(program.source, program.stages)
+
+
+def nodes_of_stages(source, stages):
+    """The nodes of a program with any stages, also more, or with greater numbers, than a Program can have."""
     nodes = []
-    add_program(nodes, program)
+    add_stages(nodes, source, stages)
     return nodes
 
 
-def add_program(nodes, program):
-    nodes.append(Node("from", program.source, TAKER, TAKER))
-    for stage in program.stages:
+def add_stages(nodes, source, stages):
+    nodes.append(Node("from", source, TAKER, TAKER))
+    for stage in stages:
         add_stage(nodes, stage)
 
 
@@ -83,7 +101,7 @@ def add_stage(nodes, stage):
     """Puts a stage behind the last node, and the nodes of a zip's program between both."""
     asked = [len(nodes) - 1]
     if stage[0] == "zip":
-        add_program(nodes, stage[1])
+        add_stages(nodes, stage[1].source, stage[1].stages)
         asked.append(len(nodes) - 1)
     for node in [nodes[number] for number in asked]:
         node.asker = len(nodes)
@@ -110,11 +128,20 @@ def first_state(nodes):
 
 def next_state(nodes, state, word, item):
     """The state behind a reply that the event of the state has; the item is what an "item" brings."""
+    if word == "item":
+        return state_behind_item(nodes, state, item)
     event, place, counts, held = state
     run = Run(nodes, counts, held)
-    if word == "item":
-        return state_behind(run, giving(nodes[place], item_thing(item)))
     return state_behind(run, step_behind_reply(run, event, place, word))
+
+
+def state_behind_item(nodes, state, item):
+    """The state behind an item that the node that waits gives on.
+
+    The node may be a function, too, for whom all that functions give are items.
+    """
+    _, place, counts, held = state
+    return state_behind(Run(nodes, counts, held), giving(nodes[place], item_thing(item)))
 
 
 def state_behind(run, step):

@@ -4,12 +4,10 @@ A pair is a tuple (one, two, links): the number of a state of each program, and 
 spot of the first one the spot that the same item has in the second one, or NOWHERE.
 """
 
+from pulledonce.machines import LAST_WORDS
 from pulledonce.search import shortest_row
 
 NOWHERE = -1
-
-# These end all runs alike.
-LAST_WORDS = ("close", "fails")
 
 
 class Pairs:

@@ -54,6 +54,23 @@ def thing_of_spots(shape, first):
     return (shape, tuple(range(first, first + shape.count(ITEM))))
 
 
+def filled_with_spots(state):
+    """A state of a run, from one that has shapes instead of its things."""
+    event, place, counts, held = state
+    first = 0
+    if event[0] in WITH_THING:
+        event = event[:-1] + (thing_of_spots(event[-1], 0),)
+        first = len(event[-1][1])
+    filled = []
+    for shapes in held:
+        things = []
+        for shape in shapes:
+            things.append(thing_of_spots(shape, first))
+            first += shape.count(ITEM)
+        filled.append(tuple(things))
+    return (event, place, counts, tuple(filled))
+
+
 class Numbering:
     """Meets the items of a state of a run in the sequence of their spots, and the nodes that have them."""
 
@@ -104,25 +121,18 @@ class State:
 
     def running(self):
         """The state of a run, with spots for its items."""
-        event, place, counts, held = self.shapes
-        if event[0] in WITH_THING:
-            event = event[:-1] + (thing_of_spots(event[-1], 0),)
-        first = self.shown_size()
-        filled = []
-        for shapes in held:
-            things = []
-            for shape in shapes:
-                things.append(thing_of_spots(shape, first))
-                first += shape.count(ITEM)
-            filled.append(tuple(things))
-        return (event, place, counts, tuple(filled))
+        return filled_with_spots(self.shapes)
 
 
 class States:
-    """The states of a program that have been met, by their numbers; the first one has the number 0."""
+    """The states of a program that have been met, by their numbers; the first one has the number 0.
 
-    def __init__(self, program):
+    What nodes that are never asked again hold is left out of them, unless the caller wants it.
+    """
+
+    def __init__(self, program, *, with_what_is_over=False):
         self.program = program
+        self.with_what_is_over = with_what_is_over
         self.nodes = nodes_of(program)
         self.later = {number: tests_behind(self.nodes, number) for number in range(len(self.nodes))}
         self.later[TAKER] = []
@@ -136,7 +146,9 @@ class States:
         The facts are the tests with the reply "yes" so far, as events.
         """
         numbering = Numbering()
-        shapes = numbering.shapes_of(without_what_is_over(self.nodes, state))
+        if not self.with_what_is_over:
+            state = without_what_is_over(self.nodes, state)
+        shapes = numbering.shapes_of(state)
         lasting = numbering.lasting(facts, self.later) if facts else ()
         words = tuple(replies_to(state[0], {fact: "yes" for fact in facts}))
         key = (shapes, lasting, words)

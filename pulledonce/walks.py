@@ -1,7 +1,7 @@
 """Walks: runs of a program that are shown event by event."""
 
-from pulledonce.errors import BadReplies, BadReply
-from pulledonce.machines import event_text, first_state, keep_reply, next_state, nodes_of, replies_to
+from pulledonce.errors import BadReply
+from pulledonce.machines import event_text, events_of_run, first_state, keep_reply, next_state, nodes_of, replies_to
 from pulledonce.pairs import NOWHERE, parting_row
 from pulledonce.states import States
 from pulledonce.things import item_text
@@ -87,9 +87,4 @@ class Walk:
 
 def run(program, replies):
     """The list of the events: the first one, and the one behind each reply of a list."""
-    walk = Walk(program)
-    for position, word in enumerate(replies):
-        if word not in walk.replies:
-            raise BadReplies(position)
-        walk.reply(word)
-    return walk.events
+    return events_of_run(Walk(program), replies)

@@ -48,7 +48,8 @@ class StageThreeTest(unittest.TestCase):
         from pulledonce.ways import reaches, way_to
         program = Program("a", [("keep", "p"), ("map", "f")])
         self.assertEqual(
-            [way_to(program, ("give", "f(a1)")), reaches(program, ("test", "p", "a0")), way_to(program, ("give", "a0"))],
+            [way_to(program, ("give", "f(a1)")), reaches(program, ("test", "p", "a0")),
+             way_to(program, ("give", "a0"))],
             [["item", "no", "item", "yes", "done"], True, None],
         )
 
@@ -60,6 +61,52 @@ class StageFourTest(unittest.TestCase):
         self.assertEqual(parting(Program("a", [("lots", 2), ("flat",)]), Program("a", [("gather", 2)])),
                          ["item", "item", "more"])
         self.assertEqual(len(parting(Program("a", [("keep", "p"), ("keep", "p")]), Program("a", [("keep", "p")]))), 2)
+
+
+class StageFiveTest(unittest.TestCase):
+    def test_examples(self):
+        from pulledonce.items import gives, items_parting, same_items
+        program = Program("a", [("keep", "p"), ("map", "f")])
+        self.assertEqual(gives(program, 3, [("p", "a1")]), ["f(a0)", "f(a2)"])
+        self.assertEqual(
+            [same_items(Program("a", [("lots", 2), ("flat",)]), Program("a", [("gather", 3)])),
+             same_items(Program("a", [("while", "p"), ("keep", "p")]), Program("a", [("while", "p")]))],
+            [True, True],
+        )
+        self.assertEqual(
+            items_parting(Program("a", [("keep", "p"), ("take", 1)]), Program("a", [("take", 1), ("keep", "p")])),
+            (2, [("p", "a0")]),
+        )
+
+
+class StageSixTest(unittest.TestCase):
+    def test_examples(self):
+        from pulledonce.spare import places, spare
+        program = Program("a", [("keep", "p"), ("map", "f")])
+        self.assertEqual(
+            [spare(Program("a", [("take", 2), ("take", 2)])),
+             spare(Program("a", [("lots", 1), ("flat",), ("map", "f")])), spare(program)],
+            [[[0], [1]], [[0, 1]], [[]]],
+        )
+        twice = Program("a", [("keep", "p"), ("keep", "p")])
+        self.assertEqual([spare(twice), spare(twice, items=True)], [[[]], [[0], [1]]])
+        self.assertEqual(
+            [places(Program("a", [("map", "f"), ("take", 1)])), places(Program("a", [("keep", "p"), ("keep", "q")])),
+             places(Program("a", [("keep", "p"), ("keep", "q")]), items=True)],
+            [[0], [], [0]],
+        )
+
+
+LOOP = [("ask", "a", 0, (1, ()), (3, ())), ("call", "f", 0, 0, (2, ())), ("give", (0, 0), (0, ())), ("end",)]
+
+
+class StageSevenTest(unittest.TestCase):
+    def test_examples(self):
+        from pulledonce.loops import is_loop, run_loop
+        self.assertEqual(
+            [is_loop(LOOP), is_loop(LOOP[1:] + LOOP[:1]), run_loop(LOOP, ["item", "done", "more"])],
+            [True, False, [("ask", "a"), ("call", "f", "a0"), ("give", "[f(a0), f(a0)]"), ("ask", "a")]],
+        )
 
 
 if __name__ == "__main__":

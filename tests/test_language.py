@@ -179,7 +179,8 @@ class LanguageTest(unittest.TestCase):
         self.assertEqual(findings(package_texts()), [])
 
     def test_the_package_has_the_files_that_have_landed(self):
-        for name in ("__init__.py", "errors.py", "programs.py", "machines.py"):
+        for stem in ("__init__", "errors", "programs", "machines", "walks", "ways", "alike", "items", "spare", "loops"):
+            name = stem + ".py"
             self.assertIn(name, package_texts())
 
     def test_what_is_right_is_not_found(self):
