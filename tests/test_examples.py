@@ -2,7 +2,7 @@
 
 import unittest
 
-from pulledonce.errors import BadReplies, BadStage
+from pulledonce.errors import BadReplies, BadStage, BadText
 from pulledonce.programs import Program
 
 
@@ -107,6 +107,49 @@ class StageSevenTest(unittest.TestCase):
             [is_loop(LOOP), is_loop(LOOP[1:] + LOOP[:1]), run_loop(LOOP, ["item", "done", "more"])],
             [True, False, [("ask", "a"), ("call", "f", "a0"), ("give", "[f(a0), f(a0)]"), ("ask", "a")]],
         )
+
+
+class StageEightTest(unittest.TestCase):
+    def test_examples(self):
+        from pulledonce.loops import is_loop, run_loop
+        from pulledonce.making import made
+        program = Program("a", [("keep", "p"), ("map", "f")])
+        self.assertEqual(
+            [is_loop(made(program)), run_loop(made(program), ["item", "no", "none"])],
+            [True, [("ask", "a"), ("test", "p", "a0"), ("ask", "a"), ("end",)]],
+        )
+
+
+class StageNineTest(unittest.TestCase):
+    def test_examples(self):
+        from pulledonce.judging import is_loop_of, loop_parting
+        from pulledonce.making import made
+        program = Program("a", [("keep", "p"), ("map", "f")])
+        self.assertEqual(
+            [is_loop_of(program, made(program)), is_loop_of(program, LOOP), is_loop_of(program, None),
+             loop_parting(program, LOOP)],
+            [True, False, False, ["item"]],
+        )
+
+
+class StageTenTest(unittest.TestCase):
+    def test_examples(self):
+        from pulledonce.held import most_held
+        program = Program("a", [("keep", "p"), ("map", "f")])
+        self.assertEqual(
+            [most_held(program), most_held(Program("a", [("gather", 3)]))[0], most_held(Program("a"))],
+            [(1, ["item"]), 3, (1, ["item"])],
+        )
+
+
+class StageElevenTest(unittest.TestCase):
+    def test_examples(self):
+        from pulledonce.texts import program_text, read_program
+        self.assertEqual(program_text(Program("a", [("zip", Program("b", [("take", 2)])), ("flat",)])),
+                         "from a\nzip\n  from b\n  take 2\nflat")
+        with self.assertRaises(BadText) as seen:
+            read_program("from a\nmap f\nflat")
+        self.assertEqual(seen.exception.line, 3)
 
 
 if __name__ == "__main__":

@@ -179,7 +179,8 @@ class LanguageTest(unittest.TestCase):
         self.assertEqual(findings(package_texts()), [])
 
     def test_the_package_has_the_files_that_have_landed(self):
-        for stem in ("__init__", "errors", "programs", "machines", "walks", "ways", "alike", "items", "spare", "loops"):
+        for stem in ("__init__", "errors", "programs", "machines", "walks", "ways", "alike", "items", "spare", "loops",
+                     "making", "judging", "held", "texts"):
             name = stem + ".py"
             self.assertIn(name, package_texts())
 
