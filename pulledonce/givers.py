@@ -3,7 +3,8 @@
 A place is a tuple (states, ahead, facts): the states of both programs' runs; for each
 program the tuple of the things that it has given and the other one has not yet; and the
 replies to tests that can come again, as tuples (name, thing, word). Its items are known
-by their spots alone, 0, 1, .. through the states and then through the things ahead.
+by their spots alone, 0, 1, .. through the state of the first program and its things ahead,
+and then through those of the second one; an item that is one for both has one spot.
 
 A step is a tuple (note, place, former): what is done, the place behind it, and for each
 spot there the spot that the item had before. A note is (LONGER,), if the list has one more

@@ -17,7 +17,7 @@ class Holder:
         words = self.states.rows[number].words
         return [(word, self.states.move(number, word)[0]) for word in words if word not in LAST_WORDS]
 
-    def held(self, number):
+    def many_held(self, number):
         return self.states.rows[number].size
 
     def most(self):
@@ -27,11 +27,11 @@ class Holder:
             # This adds the states that have not been met yet.
             self.behind(number)
             number += 1
-        return max([self.held(number) for number in range(len(self.states.rows))])
+        return max([self.many_held(number) for number in range(len(self.states.rows))])
 
 
 def most_held(program):
     """A tuple (n, replies): the most items that a program holds, and a shortest row behind which it does."""
     holder = Holder(program)
     most = holder.most()
-    return (most, shortest_row(0, lambda number: holder.held(number) == most, holder.behind))
+    return (most, shortest_row(0, lambda number: holder.many_held(number) == most, holder.behind))

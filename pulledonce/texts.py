@@ -94,7 +94,7 @@ class Reader:
         inner = self.programs.pop()
         self.programs.append(self.programs.pop().then(("zip", inner)))
 
-    def whole(self):
+    def all_read(self):
         """The program of all lines."""
         while len(self.programs) > 1:
             self.close()
@@ -121,4 +121,4 @@ def read_program(text):
             raise BadText(at + 1)
     if reader.opens:
         raise BadText(len(lines) + 1)
-    return reader.whole()
+    return reader.all_read()

@@ -54,6 +54,9 @@ SAME = [
     ([("take", 4), KEEP, WHILE], [("take", 4), AFTER, KEEP]),
     ([("while", "q"), KEEP], [("while", "q"), KEEP, ("while", "q")]),
     ([("lots", 1), KEEP, FLAT, ("lots", 1)], [("lots", 1), KEEP]),
+    ([("lots", 2), KEEP, ("lots", 2), ("keep", "q"), FLAT, KEEP], [("lots", 2), KEEP, ("lots", 2), ("keep", "q"), FLAT]),
+    ([MAP, KEEP, ("lots", 3), ("keep", "q"), FLAT, KEEP], [MAP, KEEP, ("lots", 3), ("keep", "q"), FLAT]),
+    ([("lots", 3), AFTER, FLAT, ("keep", "q"), ("keep", "r")], [("lots", 3), AFTER, FLAT, ("keep", "r"), ("keep", "q")]),
     ([("lots", 2), FLAT, ("lots", 3), FLAT, MAP], [MAP, ("gather", 4)]),
 ]
 
@@ -92,6 +95,10 @@ OTHER = [
     ([("take", 4), ("lots", 3)], [("lots", 3), ("take", 2)], 5),
     ([AFTER, WHILE], [WHILE, AFTER], 2),
     ([("while", "q"), KEEP], [KEEP, ("while", "q")], 2),
+    ([("lots", 3), AFTER, FLAT, ("keep", "q")], [("keep", "q"), ("lots", 3), AFTER, FLAT], 2),
+    ([("lots", 2), AFTER, FLAT, ("skip", 1)], [("skip", 1), ("lots", 2), AFTER, FLAT], 2),
+    ([("lots", 2), AFTER, FLAT, ("skip", 2)], [("skip", 2), ("lots", 2), AFTER, FLAT], 3),
+    ([KEEP, ("lots", 2), MAP], [MAP, KEEP, ("lots", 2)], 1),
 ]
 
 
