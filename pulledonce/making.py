@@ -11,12 +11,12 @@ from pulledonce.states import Numbering, filled_with_spots, without_what_is_over
 from pulledonce.things import ITEM, things_in_row
 
 
-def shape_of(thing):
+def loop_shape(thing):
     """The shape of a loop for a thing that consists of rows and spots."""
     shape, spots = thing
     if shape == ITEM:
         return spots[0]
-    return tuple([shape_of(inner) for inner in things_in_row(thing)])
+    return tuple([loop_shape(inner) for inner in things_in_row(thing)])
 
 
 class Maker:
@@ -27,7 +27,7 @@ class Maker:
         self.numbers = {}
         self.rows = []
 
-    def way_to(self, state):
+    def way_for(self, state):
         """The way to a state of a run, whose items are registers."""
         numbering = Numbering()
         shapes = numbering.shapes_of(without_what_is_over(self.nodes, state))
@@ -46,12 +46,12 @@ class Maker:
             return ("ask", event[1], free, self.way_of_item(state, free), self.way_of_word(state, "none"))
         if event[0] == "call":
             free = self.first_free(state)
-            return ("call", event[1], shape_of(event[2]), free, self.way_of_item(state, free))
+            return ("call", event[1], loop_shape(event[2]), free, self.way_of_item(state, free))
         if event[0] == "test":
             ways = (self.way_of_word(state, "yes"), self.way_of_word(state, "no"))
-            return ("test", event[1], shape_of(event[2])) + ways
+            return ("test", event[1], loop_shape(event[2])) + ways
         if event[0] == "give":
-            return ("give", shape_of(event[1]), self.way_of_word(state, "more"))
+            return ("give", loop_shape(event[1]), self.way_of_word(state, "more"))
         return event
 
     def first_free(self, state):
@@ -61,16 +61,16 @@ class Maker:
 
     def way_of_item(self, state, free):
         """The way behind what comes into a register, from a source or a function."""
-        return self.way_to(state_behind_item(self.nodes, state, free))
+        return self.way_for(state_behind_item(self.nodes, state, free))
 
     def way_of_word(self, state, word):
-        return self.way_to(next_state(self.nodes, state, word, 0))
+        return self.way_for(next_state(self.nodes, state, word, 0))
 
 
 def made(program):
     """A loop of a program."""
     maker = Maker(program)
-    maker.way_to(first_state(maker.nodes))
+    maker.way_for(first_state(maker.nodes))
     loop = []
     while len(loop) < len(maker.rows):
         loop.append(maker.loop_state(len(loop)))

@@ -1,9 +1,12 @@
 """The texts of programs, a line for each source and stage."""
 
 from pulledonce.errors import BadText, StreamError
-from pulledonce.programs import GREATEST_NUMBER, SOURCES, STAGES_WITH_NAME, STAGES_WITH_NUMBER, Program
+from pulledonce.programs import SOURCES, STAGES_WITH_NUMBER, Program
 
 INDENT = "  "
+
+# Numbers are written in this way alone.
+NUMBERS = {"1": 1, "2": 2, "3": 3, "4": 4}
 
 
 def program_text(program):
@@ -25,16 +28,10 @@ def stage_lines(stage):
 
 
 def stage_of_words(words):
-    """The stage, but for a zip, of a line with some words, or None; whether it can stand there is not asked."""
-    if words == ["flat"]:
-        return ("flat",)
-    if len(words) != 2:
-        return None
-    kind, detail = words
-    if kind in STAGES_WITH_NAME:
-        return (kind, detail)
-    numbers = [number for number in range(1, GREATEST_NUMBER + 1) if detail == f"{number}"]
-    return (kind, numbers[0]) if kind in STAGES_WITH_NUMBER and numbers else None
+    """What the words of a line tell, which may be no stage; a zip needs more lines."""
+    if len(words) == 2 and words[0] in STAGES_WITH_NUMBER:
+        return (words[0], NUMBERS.get(words[1]))
+    return tuple(words)
 
 
 class Reader:
@@ -78,7 +75,7 @@ class Reader:
         if words == ["zip"]:
             return self.read_zip()
         stage = stage_of_words(words)
-        if stage is None or not can_follow(self.programs[-1], stage):
+        if not can_follow(self.programs[-1], stage):
             return False
         self.programs.append(self.programs.pop().then(stage))
         return True
